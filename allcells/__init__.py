@@ -1,0 +1,1 @@
+"""Allcells: statements about all cells of arrays."""
