@@ -37,13 +37,13 @@ def closes(sayings, entries, cases):
 
 
 def is_of_one_kind(sayings, entries):
-    """Tells whether all bases of right entries are of places, or all of values.
+    """Tells whether all bases of a ring of right entries are of places, or all of values.
 
-    The empty name is a base of both, so entries between it and itself go with either.
+    Each base is one from which an entry goes; the empty name is a base of both kinds.
     """
-    named = [why for start, _, end, why in entries if start != "" or end != ""]
-    kinds = [why[0] == "case" or why[0] == "said" and sayings[why[1]][0] == "place" for why in named]
-    return all(kinds) or not any(kinds)
+    named = [why for start, _, _, why in entries if start != ""]
+    places = [why[0] == "case" or why[0] == "said" and sayings[why[1]][0] == "place" for why in named]
+    return all(places) or not any(places)
 
 
 def is_entry(value):

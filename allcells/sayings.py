@@ -161,7 +161,8 @@ def settled(sayings, state):
 
 def opposites(saying, fresh):
     """Returns the lists of statements of which one can be made true just if a statement is false."""
-    terms = [(name, 0) for name in fresh][: count_asked(checked(saying))]
+    checked(saying)
+    terms = [(name, 0) for name in fresh][: count_asked(saying)]
     word = "place" if saying[0] == "place" else "value"
     return [
         [("place", lower, upper) for lower, upper in order_opposed(saying, terms)]

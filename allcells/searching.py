@@ -74,23 +74,16 @@ def entries_asked(sayings, terms):
     entries = []
     for index, saying in enumerate(sayings):
         for asked in choices[count_asked(saying)]:
-            needed = order_needed(saying, asked)
-            if can_be(needed):
-                why = ("asked", index, tuple(asked))
-                cases = cases_needed(needed)
-                pairs = pairs_said(saying, asked)
-                entries = entries + [(*at_most(low, high), why, cases) for low, high in pairs]
+            why = ("asked", index, tuple(asked))
+            needed = cases_needed(order_needed(saying, asked))
+            pairs = pairs_said(saying, asked)
+            entries = entries + [(*at_most(low, high), why, needed) for low, high in pairs]
     return entries
 
 
-def can_be(needed):
-    """Tells whether the numbers of no pair of terms tell that the first is greater."""
-    return all([low[0] != high[0] or low[1] <= high[1] for low, high in needed])
-
-
-def cases_needed(needed):
-    """Returns the pairs of terms whose order their numbers do not tell."""
-    return [(low, high) for low, high in needed if not is_in_order(low, high)]
+def cases_needed(pairs):
+    """Returns the pairs of terms whose numbers do not tell that the first is at most the second."""
+    return [(low, high) for low, high in pairs if not is_in_order(low, high)]
 
 
 def entries_equal(arrays, terms):
@@ -100,7 +93,7 @@ def entries_equal(arrays, terms):
         for array in arrays
         for one in terms
         for other in terms
-        if one[0] != other[0]
+        if one != other
     ]
 
 

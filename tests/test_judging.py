@@ -63,6 +63,7 @@ class Said(Judging):
                         [("x", True, "x", ("said", 0))], [("x", 2, "y", ("said", 1)), second],
                         [("x", 2, "y", ("said", False)), second], [("x", 2, "y", ("said", -2)), second],
                         [("x", 2, "y", ["said", 0]), second], [("x", 2, "y", ("said", 0, [])), second],
+                        [("x", 2, "y", ("said", 0, [], [])), second],
                         [["x", 2, "y", ("said", 0)], second], [("x", 2, "y", ("asked", 0, [])), second],
                         [("x", 2, "y", ("case", 0)), second], [("x", 2, "y", ("said",)), second],
                         [("x", 2, "y", "said"), second], [("x", 2, "y", ()), second], [(X, 2, Y, ("said", 0)), second]]:
@@ -205,6 +206,8 @@ class Cases(Judging):
         greater = ("ring", [("y", 1, "x", ("case", 0)), ("x", 0, "y", ("said", 1))])
         self.right(self.sayings, ("cases", Y, X, greater, self.equal, self.asked))
         self.wrong(self.sayings, ("cases", Y, X, self.asked, self.equal, self.greater))
+        self.wrong(self.sayings, ("cases", Y, X, self.asked, self.equal, self.asked))
+        self.right(self.sayings, ("cases", Y, X, greater, self.asked, self.asked))
 
     def test_order_must_be_known(self):
         self.wrong(self.sayings, self.asked)
@@ -285,7 +288,7 @@ class Cases(Judging):
         self.right(sayings, ("cases", ("y", 3), X, more, equal, less))
         for entry in [(there, 1, AX, ("equal", 0)), (there, 0, AX, ("equal", 1)), (there, 0, AX, ("equal", -1)),
                       (there, 0, AX, ("equal", False)), (there, False, AX, ("equal", 0)), (there, 0, AX, ("case", 0)),
-                      (there, 0, AX, ("equal", 0, [X])), (("b", ("y", 3)), 0, AX, ("equal", 0)),
+                      (there, 0, AX, ("equal", 0, [X])), (there, 0, AX, ("equal", 0, 0, 0)), (("b", ("y", 3)), 0, AX, ("equal", 0)),
                       (AY, 0, AX, ("equal", 0)), (there, 0, there, ("equal", 0)), (AX, 0, AX, ("equal", 0))]:
             self.wrong(sayings, ("cases", X, ("y", 3), less, ("ring", [equal[1][0], entry]), more))
         self.wrong(sayings, ("cases", X, ("y", 3), equal, equal, more))
