@@ -28,3 +28,14 @@ def cell_at(row, place):
             break
         cell = value
     return cell
+
+
+def overwritten(row, source, first, last):
+    """Returns a row, in any order, whose cells on a stretch are those of another row, while all
+    others are as before."""
+    if last < first:
+        return row
+    edges = [(first - 1, cell_at(row, first - 1)), (first, cell_at(source, first)), (last + 1, cell_at(row, last + 1))]
+    outside = [(place, cell) for place, cell in row if place < first - 1 or place > last + 1]
+    inside = [(place, cell) for place, cell in source if first < place <= last]
+    return outside + edges + inside

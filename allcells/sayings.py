@@ -36,6 +36,12 @@ def checked(saying):
     return saying
 
 
+def check_all(sayings):
+    """Raises the error of the first value of a list that is no statement."""
+    for saying in sayings:
+        checked(saying)
+
+
 def check_known(sayings, state):
     """Raises an error for what is no statement, then for a name that a state does not have."""
     wanted = names_of(sayings)

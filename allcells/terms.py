@@ -63,9 +63,14 @@ def number_of(term):
     return term[-1]
 
 
+def raised(term, number):
+    """Returns the term that is greater by a number."""
+    return (*term[:-1], term[-1] + number)
+
+
 def increased(term):
     """Returns the term that is greater by one."""
-    return (*term[:-1], term[-1] + 1)
+    return raised(term, 1)
 
 
 def at_most(low, high):

@@ -32,6 +32,45 @@ DECIDE = '''
 [True, False]
 '''
 
+FOLLOWS = '''
+>>> from allcells.follows import alike, counter, first_different, first_new, follows, judge_why, needless, thinned, why_follows
+>>> from allcells.sayings import is_true
+>>> rising = ("rising", "a", ("", 0), ("n", -1))
+>>> here = [rising, ("place", ("", 0), ("x", 0)), ("place", ("x", 0), ("y", 0)), ("place", ("y", 0), ("n", -1))]
+>>> order = ("value", ("a", ("x", 0), 0), ("a", ("y", 0), 0))
+>>> [follows(here, order), follows(here[:3], order), is_true(order, counter(here[:3], order)), needless(here + [order]), thinned(here + [order]) == here, alike(here, here + [order]), first_new([rising], here), judge_why(here, order, why_follows(here, order)), first_different(here, here + [order])]
+[True, False, False, [4], True, True, 1, True, None]
+'''
+
+BOUNDS = '''
+>>> from allcells.bounds import place_bounds, state_with, value_bounds
+>>> here = [("below", "a", ("", 0), ("x", 0), "a", ("x", 1), ("n", 0), 2), ("place", ("", 0), ("x", 0)), ("place", ("x", 1), ("n", 0))]
+>>> [value_bounds(here, ("a", ("x", 0), 0), ("a", ("n", 0), 0)), place_bounds(here, ("x", 0), ("n", 0)), value_bounds(here, ("a", ("", 0), 0), ("a", ("x", 0), 0)), value_bounds(here + [("place", ("n", 0), ("x", 0))], ("v", 0), ("v", 1)), state_with(here, ("a", ("x", 0), 0), ("a", ("n", 0), 0), 1)]
+[(2, None), (1, None), (None, None), None, None]
+'''
+
+PROGRAMS = '''
+>>> from allcells.programs import Program, run
+>>> from allcells.states import State
+>>> bubble = Program([("if", [("value", ("a", ("x", 1), 1), ("a", ("x", 0), 0))], [("exchange", "a", ("x", 0), ("x", 1))], [])])
+>>> state = State({"x": 0}, {}, {"a": [(0, 8), (1, 3)]})
+>>> [run(bubble, state, 9).arrays, len(bubble), run(Program([("copy", "a", "b", ("x", 1), ("x", 2))]), State({"x": 0}, {}, {"a": [(0, 1)], "b": [(0, 5)]}), 1).arrays["a"], len(bubble + bubble)]
+[{'a': [(-1, 8), (0, 3), (1, 8), (2, 3)]}, 2, [(0, 1), (1, 5), (3, 1)], 4]
+'''
+
+GAPS = '''
+>>> from allcells.programs import Program
+>>> from allcells.gaps import duties, ends, first_gap, holds, judge_gap, largest_kept
+>>> swap = Program([("exchange", "a", ("x", 0), ("y", 0))])
+>>> ahead, behind = [("value", ("a", ("x", 0), 0), ("a", ("y", 0), 0))], [("value", ("a", ("y", 0), 0), ("a", ("x", 0), 0))]
+>>> [holds(ahead, swap, behind), duties(ahead, swap, ahead), judge_gap(ahead, swap, ahead, first_gap(ahead, swap, ahead))]
+[True, [('end', 0)], True]
+>>> kept = [("low", "a", ("", 0), ("x", -1), ("", 0))]
+>>> fill = Program([("set_place", "x", ("", 0)), ("loop", [("place", ("x", 1), ("n", 0))], kept, [("put", "a", ("x", 0), ("", 7)), ("set_place", "x", ("x", 1))])])
+>>> [holds([], fill, [("low", "a", ("", 0), ("n", -1), ("", 0))]), duties([], fill, [("low", "a", ("", 0), ("n", 0), ("", 0))]), largest_kept([], fill, [("place", ("x", 0), ("", 1)), ("low", "a", ("", 0), ("x", -1), ("", 7)), ("place", ("", 0), ("x", 0))]), ends(fill, ("x", 0), ("n", -1)), ends(fill, ("", 0), ("n", 0))]
+[True, [('end', 0)], [1, 2], True, False]
+'''
+
 
 class Examples(unittest.TestCase):
     def run_examples(self, text):
@@ -49,6 +88,18 @@ class Examples(unittest.TestCase):
 
     def test_decide(self):
         self.run_examples(DECIDE)
+
+    def test_follows(self):
+        self.run_examples(FOLLOWS)
+
+    def test_bounds(self):
+        self.run_examples(BOUNDS)
+
+    def test_programs(self):
+        self.run_examples(PROGRAMS)
+
+    def test_gaps(self):
+        self.run_examples(GAPS)
 
 
 if __name__ == "__main__":

@@ -4,27 +4,10 @@ import random
 import unittest
 
 from allcells.decide import clash, judge_clash, possible
-from oracle import WORDS, plainly_shows, random_saying
+from oracle import WORDS, mutants, plainly_shows, random_saying
 
 X, Y, Z, ZERO = ("x", 0), ("y", 0), ("z", 0), ("", 0)
 AX, AY, AZ = ("a", X), ("a", Y), ("a", Z)
-
-
-def mutants(value):
-    """All values that differ from a value in one place."""
-    if isinstance(value, bool) or value is None:
-        return [0, "x"]
-    if isinstance(value, int):
-        return [value + 1, value - 1, str(value), None, bool(value % 2), [value], -value - 7]
-    if isinstance(value, str):
-        return ["", value + "s", "b" if value != "b" else "c", "Q", 0, None, [value], (value,), True]
-    found = [list(value) if isinstance(value, tuple) else tuple(value), None, 0, ""]
-    for at, part in enumerate(value):
-        found += [value[:at] + type(value)([new]) + value[at + 1:] for new in mutants(part)]
-        found += [value[:at] + value[at + 1:], value[:at] + type(value)([part, part]) + value[at + 1:]]
-        if at and isinstance(value, tuple):
-            found += [value[:at - 1] + type(value)([part, value[at - 1]]) + value[at + 1:]]
-    return found
 
 
 class Judging(unittest.TestCase):

@@ -21,7 +21,7 @@ METHODS = set(
     "items join keys ljust lower lstrip partition pop remove replace reverse rfind rjust rpartition rsplit rstrip "
     "setdefault split splitlines startswith strip update upper values zfill bit_length".split()
 )
-DUNDERS = {"__init__", "__eq__", "__repr__", "__str__", "__len__", "__call__"}
+DUNDERS = {"__init__", "__eq__", "__repr__", "__str__", "__len__", "__call__", "__add__"}
 BUILTIN_NAMES = set(dir(builtins)) - {"_"}
 STATEMENTS = (
     ast.Assign, ast.AugAssign, ast.If, ast.While, ast.For, ast.Return, ast.Break, ast.Continue, ast.Pass, ast.Raise,
@@ -44,6 +44,17 @@ INTERFACE = {
     "sayings": "checked(saying) terms_of(sayings) names_of(sayings) is_true(saying,state) all_true(sayings,state) "
                "first_false(sayings,state) where_false(saying,state) settled(sayings,state) opposites(saying,fresh)",
     "decide": "possible(sayings) model(sayings) clash(sayings) judge_clash(sayings,told) least_clashes(sayings)",
+    "follows": "follows(sayings,saying) counter(sayings,saying) why_follows(sayings,saying) judge_why(sayings,saying,told) "
+               "first_different(one,other) needless(sayings) thinned(sayings) alike(one,other) first_new(one,other)",
+    "bounds": "value_bounds(sayings,u,v) place_bounds(sayings,p,q) state_with(sayings,u,v,number)",
+    "programs": "Program(steps) run(program,state,most)",
+    "gaps": "holds(ahead,program,behind) duties(ahead,program,behind) largest_kept(ahead,program,offered) "
+            "ends(program,p,q) first_gap(ahead,program,behind) judge_gap(ahead,program,behind,told)",
+}
+CLASSES = {
+    "states.State": "places numbers arrays place_of(self,term) value_of(self,term) with_cell(self,array,place,value) "
+                    "__len__(self) __eq__(self,other)",
+    "programs.Program": "steps then(self,other) __add__(self,other) __len__(self) __eq__(self,other)",
 }
 
 
@@ -172,7 +183,8 @@ class Language(unittest.TestCase):
             if name == "set":
                 self.assertIn(user, ("sorted", "len"), where)
             if name in ("zip", "range", "enumerate", "reversed"):
-                self.assertTrue(looped or user in AT_ONCE | {"combinations"}, where)
+                apart = name == "range" and user == "reversed"
+                self.assertTrue(looped or apart or user in AT_ONCE | {"combinations"}, where)
             if isinstance(node.func, ast.Attribute) and node.func.attr in ("items", "keys", "values"):
                 self.assertTrue(looped or user in AT_ONCE, where)
             if name in BUILTIN_NAMES:
@@ -211,6 +223,26 @@ class Language(unittest.TestCase):
                 self.assertEqual(thing.__module__, f"allcells.{name}")
                 if given:
                     self.assertEqual(list(inspect.signature(thing).parameters), given[:-1].split(","))
+
+    def test_methods_stand_in_their_classes(self):
+        for name, wanted in CLASSES.items():
+            module, _, word = name.partition(".")
+            body = vars(getattr(importlib.import_module(f"allcells.{module}"), word))
+            for told in wanted.split():
+                method, _, given = told.partition("(")
+                if given:
+                    self.assertEqual(list(inspect.signature(body[method]).parameters), given[:-1].split(","))
+                else:
+                    self.assertIsInstance(body[method], property)
+
+    def test_properties(self):
+        """No attribute is stored under the name of a property, and no method has it."""
+        marked = [node for _, node in self.nodes(ast.FunctionDef) if node.decorator_list]
+        names = {node.name for node in marked}
+        plain = {node.name for _, node in self.nodes(ast.FunctionDef)} - names
+        self.assertEqual(names & plain, set())
+        stored = {node.attr for _, node in self.nodes(ast.Attribute) if isinstance(node.ctx, ast.Store)}
+        self.assertEqual(names & stored, set())
 
 
 if __name__ == "__main__":
