@@ -82,7 +82,7 @@ class Systems(unittest.TestCase):
                 self.assertGreater(sum(entry[1] for entry in ring), 0)
                 self.assertEqual(len({entry[0] for entry in ring}), len(ring))
             rings[0 if ring is None else len(ring)] = True
-        self.assertGreater(len(rings), 4)
+        self.assertGreater(len(rings), 3)
 
 
 if __name__ == "__main__":
