@@ -71,6 +71,34 @@ GAPS = '''
 [True, [('end', 0)], [1, 2], True, False]
 '''
 
+SEEN = '''
+>>> from allcells.seen import strictest_state, fitting, strongest
+>>> from allcells.states import State
+>>> offered = [("low", "a", ("", 0), ("", 3), ("", 0)), ("low", "a", ("", 0), ("", 3), ("", 2)), ("rising", "a", ("", 0), ("", 3))]
+>>> states = [State({}, {}, {"a": [(0, 2), (2, 4)]}), State({}, {}, {"a": [(0, 3), (1, 2)]})]
+>>> [fitting(offered, states), strongest(offered, states) == [offered[1]], strictest_state(offered, states), fitting(offered, [])]
+[[0, 1], True, 1, [0, 1, 2]]
+'''
+
+LIVE = '''
+>>> from allcells.live import LeanSheet, Sheet
+>>> sheet = Sheet()
+>>> [sheet(("place", ("x", 0), ("y", 0))), sheet.add_all([("rising", "a", ("x", 0), ("y", 0))]), sheet.follows(("value", ("a", ("x", 0), 0), ("a", ("y", 0), 0))), sheet.undo(), len(sheet)]
+[1, 2, True, None, 1]
+>>> lean = LeanSheet()
+>>> [lean(("place", ("x", 0), ("y", 0))), lean(("place", ("y", 0), ("x", 3))), len(lean), lean == sheet]
+[1, 2, 2, False]
+'''
+
+READINGS = '''
+>>> from allcells.readings import read_saying, read_state, read_term
+>>> from allcells.states import State
+>>> from allcells.texts import show_saying, show_state, show_term
+>>> low = ("low", "a", ("", 0), ("n", -1), ("a", ("x", 2), -3))
+>>> [show_saying(low), read_saying(show_saying(low)) == low, show_saying(("same", "a", "b", None, ("n", 0), -4)), show_term(("", -7)), read_term("a[n-1]+2"), show_state(State({"n": 3}, {}, {"a": [(0, 2), (1, 4)]})), read_state("") == State({}, {}, {})]
+['low a 0 n-1 a[x+2]-3', True, 'same a b .. n -4', '-7', ('a', ('n', -1), 2), 'place n=3; array a=0:2,1:4', True]
+'''
+
 
 class Examples(unittest.TestCase):
     def run_examples(self, text):
@@ -100,6 +128,15 @@ class Examples(unittest.TestCase):
 
     def test_gaps(self):
         self.run_examples(GAPS)
+
+    def test_seen(self):
+        self.run_examples(SEEN)
+
+    def test_live(self):
+        self.run_examples(LIVE)
+
+    def test_texts_and_readings(self):
+        self.run_examples(READINGS)
 
 
 if __name__ == "__main__":

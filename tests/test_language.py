@@ -25,7 +25,7 @@ DUNDERS = {"__init__", "__eq__", "__repr__", "__str__", "__len__", "__call__", "
 BUILTIN_NAMES = set(dir(builtins)) - {"_"}
 STATEMENTS = (
     ast.Assign, ast.AugAssign, ast.If, ast.While, ast.For, ast.Return, ast.Break, ast.Continue, ast.Pass, ast.Raise,
-    ast.Assert, ast.Delete, ast.Expr, ast.FunctionDef, ast.ClassDef, ast.ImportFrom,
+    ast.Assert, ast.Delete, ast.Expr, ast.FunctionDef, ast.ClassDef, ast.ImportFrom, ast.Try,
 )
 BARRED_NAMES = {
     "register", "mro", "elements", "open", "input", "law", "version_info", "with_traceback", "add_note", "attrgetter",
@@ -48,12 +48,19 @@ INTERFACE = {
                "first_different(one,other) needless(sayings) thinned(sayings) alike(one,other) first_new(one,other)",
     "bounds": "value_bounds(sayings,u,v) place_bounds(sayings,p,q) state_with(sayings,u,v,number)",
     "programs": "Program(steps) run(program,state,most)",
+    "seen": "fitting(sayings,states) strongest(sayings,states) strictest_state(sayings,states)",
+    "live": "Sheet() LeanSheet()",
+    "texts": "show_term(term) show_saying(saying) show_state(state)",
+    "readings": "read_term(text) read_saying(text) read_state(text)",
     "gaps": "holds(ahead,program,behind) duties(ahead,program,behind) largest_kept(ahead,program,offered) "
             "ends(program,p,q) first_gap(ahead,program,behind) judge_gap(ahead,program,behind,told)",
 }
 CLASSES = {
     "states.State": "places numbers arrays place_of(self,term) value_of(self,term) with_cell(self,array,place,value) "
                     "__len__(self) __eq__(self,other)",
+    "live.Sheet": "__call__(self,saying) sayings follows(self,saying) model(self) add_all(self,sayings) undo(self) "
+                  "__len__(self) __eq__(self,other)",
+    "live.LeanSheet": "__call__(self,saying) add_all(self,sayings) __eq__(self,other)",
     "programs.Program": "steps then(self,other) __add__(self,other) __len__(self) __eq__(self,other)",
 }
 
@@ -153,6 +160,11 @@ class Language(unittest.TestCase):
             self.assertIsInstance(node.value, (ast.Call, ast.Constant), where)
         for where, node in self.nodes(ast.Raise):
             self.assertTrue(isinstance(node.exc, ast.Call) and isinstance(node.exc.func, ast.Name), where)
+            self.assertTrue(node.cause is None or ast.unparse(node.cause) == "None", where)
+        for where, node in self.nodes(ast.Try):
+            self.assertEqual(node.finalbody, [], where)
+        for where, node in self.nodes(ast.ExceptHandler):
+            self.assertIn(ast.unparse(node.type), INTERFACE["errors"].split(), where)
 
     def test_expressions(self):
         barred = (ast.GeneratorExp, ast.Div, ast.Pow, ast.Mod, ast.Lambda, ast.NamedExpr, ast.JoinedStr, ast.Yield,
@@ -222,7 +234,7 @@ class Language(unittest.TestCase):
                 thing = getattr(module, word)
                 self.assertEqual(thing.__module__, f"allcells.{name}")
                 if given:
-                    self.assertEqual(list(inspect.signature(thing).parameters), given[:-1].split(","))
+                    self.assertEqual(",".join(inspect.signature(thing).parameters), given[:-1])
 
     def test_methods_stand_in_their_classes(self):
         for name, wanted in CLASSES.items():
