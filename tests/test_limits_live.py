@@ -5,7 +5,7 @@ import unittest
 
 from allcells.decide import possible
 from allcells.errors import Contradiction, Needless, Unreadable
-from allcells.follows import follows
+from allcells.follows import follows, thinned
 from allcells.live import LeanSheet, Sheet
 from allcells.readings import read_saying, read_state, read_term
 from allcells.sayings import all_true
@@ -61,8 +61,8 @@ class SeenStates(Timed):
                 terms = [(name, rng.randint(-size, size)) for name in rng.choice(["nxy", "xy"])] + [ZERO]
                 sayings = [random_saying(rng, terms, size=size, open_ends=0.5) for _ in range(6)]
                 states = [State({"n": 3, "x": 5, "y": 9}, {"u": HUGE, "v": 0}, {"a": row(rng, 9), "b": row(rng)}) for _ in range(rng.randint(0, 20))]
-                left = self.soon(strongest, sayings, states)
-                self.assertEqual(left, [saying for saying in sayings if saying in left][: len(left)])
+                fit = [sayings[index] for index in fitting(sayings, states)]
+                self.assertEqual(self.soon(strongest, sayings, states), thinned(fit))
 
 
 class LiveSheets(Timed):

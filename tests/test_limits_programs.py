@@ -80,8 +80,8 @@ class Following(Timed):
                 state = self.soon(state_with, sayings, u, v, number)
                 self.assertEqual(state.value_of(v) - state.value_of(u), number)
         for side, number in zip((-1, 1), found or ()):
-            number = number and number + side
-            self.assertIs(number is None or self.soon(state_with, sayings, u, v, number) is None, True)
+            if number is not None:
+                self.assertIsNone(self.soon(state_with, sayings, u, v, number + side))
 
     def test_hard_lists(self):
         for sayings, saying in HARD:

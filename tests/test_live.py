@@ -403,7 +403,7 @@ class Lean(Sheets):
     def test_none_follows_from_those_before(self):
         rng = random.Random(82)
         counts = {"taken": 0, Needless: 0, Contradiction: 0}
-        for _ in range(50):
+        for _ in range(100):
             sheet = LeanSheet()
             for _ in range(6):
                 before = sheet.sayings
